@@ -1,0 +1,1 @@
+"""In which order a tree's boughs come off so that it leans least far."""
