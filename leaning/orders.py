@@ -79,6 +79,12 @@ def least_far(tree, side):
     return least_from(tree, bits_on_parts(tree), side)[0]
 
 
+def least_beginning_with(tree, part, side):
+    """How far it leans to the side, at the least, by orders that begin with this part, on which nothing may hang."""
+    least = least_from(tree, bits_on_parts(tree), side)
+    return max(how_far(tree.first_lean, side), least[bit_of(part)])
+
+
 def least_order(tree, side):
     """The first of the orders by which it leans least far to the side."""
     hanging = bits_on_parts(tree)
@@ -91,3 +97,26 @@ def least_order(tree, side):
         order.append(good[0])
         off = off | bit_of(good[0])
     return order
+
+
+def count_orders(tree):
+    """How many orders there are; for the trunk alone it is one, in which nothing comes off."""
+    hanging = bits_on_parts(tree)
+    all_off = bits_of(tree.loose_parts())
+    ways_to = [1] + [0] * all_off
+    # A part that comes off makes the number greater, so all ways to a number are known when it is come to.
+    for off in range(all_off):
+        for part in may_come_off(hanging, off):
+            ways_to[off | bit_of(part)] += ways_to[off]
+    return ways_to[all_off]
+
+
+def next_behind(tree, row):
+    """The parts that may come off next behind those of the row, rising; None if these may not come off so."""
+    hanging = bits_on_parts(tree)
+    off = 0
+    for part in row:
+        if part not in may_come_off(hanging, off):
+            return None
+        off = off | bit_of(part)
+    return may_come_off(hanging, off)

@@ -17,6 +17,15 @@ class Tree:
         self.hung_on = [-1]
         self.changes = [0]
 
+    def twin(self):
+        """Another tree like this one, which may be changed without this one."""
+        other = Tree()
+        other.begun = self.begun
+        other.first_lean = self.first_lean
+        other.hung_on = list(self.hung_on)
+        other.changes = list(self.changes)
+        return other
+
     def hang(self, part, change):
         self.hung_on.append(part)
         self.changes.append(change)

@@ -108,6 +108,15 @@ class Language(unittest.TestCase):
             if isinstance(node, ast.Name) and node.id in pythons:
                 self.assertIn(node.id, OWN_NAMES, file)
 
+    def test_no_local_is_called_like_an_import_or_a_class_of_its_file(self):
+        for path, text in sources().items():
+            tree = ast.parse(text)
+            taken = [name for node in tree.body if isinstance(node, (ast.ImportFrom, ast.ClassDef))
+                     for name in bound_names(node)]
+            for node in ast.walk(tree):
+                if isinstance(node, (ast.arg, ast.Name)):
+                    self.assertEqual([name for name in bound_names(node) if name in taken], [], path.name)
+
     def test_methods(self):
         of_classes = {node.name for file, node in nodes() if isinstance(node, ast.FunctionDef)}
         for file, node in nodes():

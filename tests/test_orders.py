@@ -5,23 +5,15 @@ import unittest
 from itertools import permutations, product
 
 from tests.helper import (EITHER, LEFT, RIGHT, all_orders, ask, begin, both, bough, is_order, leans_of, left, order,
-                          right, run, shapes, told, try_order, walk)
+                          plain_try, right, run, shapes, told, trees, try_order, walk)
 
 FAR_CALLS = [right(), left(), both(), order(0), order(1), order(2)]
 
 
-def trees(seed, count, how_many, changes):
-    """So many trees of so many boughs, the same ones each time."""
-    source = random.Random(seed)
-    for k in range(how_many):
-        hung_on = tuple(source.randrange(part) for part in range(1, count + 1))
-        yield source.choice((0, source.randint(-9, 9), -200, 200)), hung_on, tuple(source.choices(changes, k=count))
-
-
 class Try(unittest.TestCase):
     def test_an_order(self):
-        self.assertEqual(ask(2, (0, 1, 0), (5, -3, 4), try_order([2, 1, 3]), try_order([3, 2, 1]), try_order([2, 3, 1])),
-                         [[0, 8, -1], [0, 8, 2], [0, 8, -1]])
+        calls = [try_order([2, 1, 3]), try_order([3, 2, 1]), try_order([2, 3, 1])]
+        self.assertEqual(ask(2, (0, 1, 0), (5, -3, 4), *calls), [[0, 8, -1], [0, 8, 2], [0, 8, -1]])
 
     def test_the_lean_at_first_counts(self):
         self.assertEqual(ask(9, (0, 0), (-1, -1), try_order([1, 2])), [[0, 9, 7]])
@@ -63,14 +55,7 @@ class Try(unittest.TestCase):
                 changes = (7, -9, 4, -3)[:count]
                 for row, answer in zip(rows, ask(-1, hung_on, changes, *[try_order(row) for row in rows])):
                     with self.subTest(hung_on=hung_on, row=row):
-                        self.assertEqual(answer, self.plain(hung_on, changes, row))
-
-    def plain(self, hung_on, changes, row):
-        for k, part in enumerate(row):
-            if any(p == part and child in row[k:] for child, p in enumerate(hung_on, 1)):
-                return [1, part]
-        leans = leans_of(-1, changes, row)
-        return [0, max(leans), min(leans)]
+                        self.assertEqual(answer, plain_try(-1, hung_on, changes, row))
 
 
 class AgainstAWalk(unittest.TestCase):

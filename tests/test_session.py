@@ -1,20 +1,22 @@
-"""begin, bough, change, less, lean: what they answer, what they refuse, and that a refusal changes nothing."""
+"""begin, bough, change, less, lean: what they answer, what they refuse; no refusal and no looking changes anything."""
 
 import unittest
 from itertools import permutations
 
-from tests.helper import (ask, begin, both, bough, change, grow, lean, left, less, order, right, run, told,
-                          try_order)
+from tests.helper import (ask, begin, both, bough, boughs, change, ends, everything, first, grow, ifchange, iflean,
+                          keeps, lean, left, less, look, may, order, right, rows, run, state, told, try_order, ways)
 
 GREATEST = 4294967295
 OTHERS = [bough(0, 50), bough(9, 101), change(1, 50), change(0, 101), less(), lean(200), lean(401), try_order([]),
-          try_order([1, 1]), right(), left(), both(), order(0), order(3), told()]
+          try_order([1, 1]), right(), left(), both(), order(0), order(3), told(), rows(), ways(), may([]), may([0]),
+          first(0), first(1), keeps(0), keeps(GREATEST), ifchange(1, 50), ifchange(0, 101), iflean(200), iflean(401),
+          boughs(0), boughs(1), look(0), look(1), ends(), state()]
 
 
 def reading(hung_on):
     """Calls that tell all there is of a small tree, then take it down."""
     count = len(hung_on)
-    calls = [right(), left(), both(), order(0), order(1), order(2), told()]
+    calls = everything(count)
     calls += [try_order(row) for row in permutations(range(1, count + 1))]
     calls += [lean(200)] + [change(part, 50) for part in range(1, count + 1)]
     return calls + [less()] * (count + 1)
@@ -149,25 +151,40 @@ class NothingChanged(unittest.TestCase):
         as_it_was = ask(7, hung_on, changes, *calls)
         refused = [(begin(401), -22), (bough(5, 50), -2), (bough(0, 101), -22), (change(0, 60), -2),
                    (change(5, 60), -2), (change(1, 101), -22), (lean(401), -22), (try_order([1, 2, 3]), -22),
-                   (order(3), -22)]
+                   (order(3), -22), (may([1, 2]), -22), (may([4, 4]), -22), (first(5), -2), (first(1), -33),
+                   (ifchange(0, 60), -2), (ifchange(5, 60), -2), (ifchange(1, 101), -22), (iflean(401), -22),
+                   (boughs(5), -2), (look(0), -2), (look(5), -2)]
         for call, number in refused:
             with self.subTest(call=call):
                 self.assertEqual(ask(7, hung_on, changes, call, *calls), [[number]] + as_it_was)
 
     def test_by_too_many(self):
         full = grow(3, (0, 1, 1, 0, 4, 4, 0, 7), (1, -2, 3, -4, 5, -6, 7, -8))
-        calls = [told(), order(0), order(1), order(2)] + [change(part, 50) for part in range(1, 9)] + [less()] * 9
+        calls = everything(8) + [change(part, 50) for part in range(1, 9)] + [less()] * 9
         self.assertEqual(run(*full, bough(0, 60), *calls)[10:], run(*full, *calls)[9:])
 
     def test_by_less_on_the_trunk_alone(self):
         self.assertEqual(run(begin(205), less(), right(), bough(0, 51), right())[1:], [[-6], [0, 5], [1], [0, 6]])
 
     def test_by_looking(self):
+        looks = [right(), left(), both(), order(0), order(1), order(2), told(), try_order([3, 2, 1, 4]),
+                 try_order([1, 2, 3, 4]), rows(), ways(), may([]), may([4, 2]), may([3, 2, 1, 4]), first(2), first(4),
+                 keeps(0), keeps(9), keeps(GREATEST), ifchange(1, 0), ifchange(3, 100), iflean(0), iflean(400),
+                 boughs(0), boughs(1), boughs(4), look(1), look(4), ends(), state()]
         hung_on, changes = (0, 1, 1, 0), (3, -4, 5, -6)
         calls = reading(hung_on)
-        looks = [right(), left(), both(), order(0), order(1), order(2), told(), try_order([3, 2, 1, 4]),
-                 try_order([1, 2, 3, 4])]
-        self.assertEqual(ask(7, hung_on, changes, *looks, *calls)[len(looks):], ask(7, hung_on, changes, *calls))
+        as_it_was = ask(7, hung_on, changes, *calls)
+        for call in looks:
+            with self.subTest(call=call):
+                self.assertEqual(ask(7, hung_on, changes, call, *calls)[1:], as_it_was)
+        self.assertEqual(ask(7, hung_on, changes, *looks, *calls)[len(looks):], as_it_was)
+
+    def test_by_looking_at_the_trunk_alone(self):
+        calls = everything(0)
+        as_it_was = ask(-7, (), (), *calls)
+        for call in calls + [ifchange(1, 0), iflean(0), keeps(0), may([1]), try_order([])]:
+            with self.subTest(call=call):
+                self.assertEqual(ask(-7, (), (), call, *calls)[1:], as_it_was)
 
 
 if __name__ == "__main__":
